@@ -1,0 +1,1 @@
+"""Keyswithin: boxes with their keys shut in other boxes."""
