@@ -2,6 +2,7 @@
 
 from keyswithin.errors import NoColour, NoHouse
 from keyswithin.kinds import is_colour, is_colours, is_pair
+from keyswithin.rows import without
 
 MOST_BOXES = 30
 MOST_LOCKS = 3
@@ -71,11 +72,6 @@ def shut(house):
     check_house(house)
     boxes, hand = house
     return shut_boxes(boxes, hand, ())
-
-
-def without(colours, lost_one):
-    """The colours but the lost one."""
-    return tuple([colour for colour in colours if colour != lost_one])
 
 
 def lost(house, colour):

@@ -32,8 +32,13 @@ def is_colours(thing, most):
     return all([is_colour(part) for part in thing]) and is_rising(thing)
 
 
+def is_place(thing, many):
+    """Whether it is the number of one of so many boxes."""
+    return is_whole(thing) and 0 <= thing < many
+
+
 def is_boxes(thing, many):
     """Whether it is a rising tuple, also an empty one, of boxes of a house that has so many."""
     if not isinstance(thing, tuple):
         return False
-    return all([is_whole(part) and 0 <= part < many for part in thing]) and is_rising(thing)
+    return all([is_place(part, many) for part in thing]) and is_rising(thing)

@@ -96,6 +96,45 @@ def plainly_kept(house, lot):
     return len(lot) > 0 and all(any(out_of_reach(lock) for lock in boxes[box][0]) for box in lot)
 
 
+def every_laying(boxes):
+    """All layings of so many boxes."""
+    return list(itertools.permutations(range(boxes)))
+
+
+def random_laying(chance, boxes):
+    """A laying of so many boxes."""
+    return tuple(chance.sample(range(boxes), boxes))
+
+
+def plain_rounds(laying):
+    """The boxes of each round, found by joining each box to the one whose key lies in it."""
+    root = list(range(len(laying)))
+    for box, key in enumerate(laying):
+        one, other = root[box], root[key]
+        root = [one if each == other else each for each in root]
+    return sorted(tuple(box for box in range(len(laying)) if root[box] == each) for each in set(root))
+
+
+def laying_house(laying):
+    """A laying written as a house: box by box a lock of its own and one key."""
+    colour = names(len(laying))
+    return tuple(((colour[box],), (colour[key],)) for box, key in enumerate(laying)), ()
+
+
+def steps_from(laying):
+    """How many exchanges lead at the fewest to each laying, found by going everywhere."""
+    steps = {laying: 0}
+    waiting = [laying]
+    for here in waiting:
+        for one, other in itertools.combinations(range(len(here)), 2):
+            there = list(here)
+            there[one], there[other] = here[other], here[one]
+            if tuple(there) not in steps:
+                steps[tuple(there)] = steps[here] + 1
+                waiting.append(tuple(there))
+    return steps
+
+
 def nested(depth, make):
     """A thing with so many lists or tuples within one another."""
     thing = make(())
@@ -111,3 +150,4 @@ THINGS = [
     ("a",) * 100, [None] * 100, nested(20, tuple), nested(20, list),
     (nested(19, tuple), ()), ((), nested(19, list)), ((nested(18, tuple),), ()),
 ]
+NO_NUMBERS = [thing for thing in THINGS if not isinstance(thing, int)] + [True, False, "0", "1", (1,), [1], "-1"]

@@ -29,6 +29,13 @@ def defined_in(module):
     return named + [target.id for part in body if isinstance(part, ast.Assign) for target in part.targets]
 
 
+def methods_of(module, name):
+    """The methods that stand in the body of a class itself."""
+    body = ast.parse((PACKAGE / (module + ".py")).read_text("utf-8")).body
+    found = [part for part in body if isinstance(part, ast.ClassDef) and part.name == name]
+    return [part.name for part in found[0].body if isinstance(part, ast.FunctionDef)]
+
+
 def nodes():
     for path in files():
         for node in ast.walk(ast.parse(path.read_text("utf-8"))):
@@ -74,10 +81,35 @@ class Language(unittest.TestCase):
         listed = {
             "houses": ("is_house", "rounds", "shut", "lost"),
             "breaking": ("fewest", "shut_with", "is_kept", "kept_lots"),
+            "layings": ("is_laying", "rounds_of", "with_rounds", "with_size", "together"),
+            "exchanges": ("behind", "row_to", "row_to_rounds"),
+            "kept": ("Kept",),
         }
         for module, functions in listed.items():
             for function in functions:
                 self.assertIn(function, defined_in(module))
+        methods = (
+            "open_box", "break_box", "shut_box", "take", "lay", "back", "hand", "opened", "broken", "inside",
+            "can_all", "__init__", "__len__", "__eq__",
+        )
+        self.assertLessEqual(set(methods), set(methods_of("kept", "Kept")))
+
+    def test_no_generators(self):
+        # Beside a class that has its own equality any, all, sum and the like take a list.
+        for name, node in nodes():
+            self.assertNotIsInstance(node, (ast.GeneratorExp, ast.Yield, ast.YieldFrom), name)
+
+    def test_no_state_at_module_level(self):
+        for path in files():
+            for part in ast.parse(path.read_text("utf-8")).body:
+                allowed = (ast.FunctionDef, ast.ClassDef, ast.ImportFrom, ast.Assign, ast.Expr)
+                self.assertIsInstance(part, allowed, path.name)
+                if isinstance(part, (ast.Assign, ast.Expr)):
+                    self.assertIsInstance(part.value, ast.Constant, path.name)
+        for name, node in nodes():
+            self.assertNotIsInstance(node, ast.Global, name)
+            if isinstance(node, ast.FunctionDef):
+                self.assertEqual(node.decorator_list, [], name)
 
 
 if __name__ == "__main__":
