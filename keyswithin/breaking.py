@@ -85,7 +85,10 @@ def is_kept(house, thing):
         return False
     others = [box for box in range(len(boxes)) if box not in thing]
     held = list(hand) + keys_in(boxes, others)
-    return not any([fits(boxes[box][0], held) for box in thing])
+    for box in thing:
+        if fits(boxes[box][0], held):
+            return False
+    return True
 
 
 def kept_lots(house):

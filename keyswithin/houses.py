@@ -21,7 +21,10 @@ def is_house(thing):
     boxes, hand = thing
     if not isinstance(boxes, tuple) or not 1 <= len(boxes) <= MOST_BOXES:
         return False
-    return all([is_box(part) for part in boxes]) and is_colours(hand, MOST_KEYS)
+    for box in boxes:
+        if not is_box(box):
+            return False
+    return is_colours(hand, MOST_KEYS)
 
 
 def check_house(house):
@@ -37,11 +40,14 @@ def keys_in(boxes, some):
 
 def fits(locks, held):
     """Whether each of the locks has a key among those held."""
-    return all([colour in held for colour in locks])
+    for colour in locks:
+        if colour not in held:
+            return False
+    return True
 
 
 def opened_in_rounds(boxes, held, closed):
-    """The rounds in which boxes of those closed are opened with the keys held."""
+    """The rounds in which boxes of those closed are opened with the keys held, and those left shut."""
     told = []
     ready = [box for box in closed if fits(boxes[box][0], held)]
     while ready:
@@ -49,22 +55,23 @@ def opened_in_rounds(boxes, held, closed):
         held = held + keys_in(boxes, ready)
         closed = [box for box in closed if box not in ready]
         ready = [box for box in closed if fits(boxes[box][0], held)]
-    return told
+    return told, tuple(closed)
 
 
 def shut_boxes(boxes, hand, broken):
     """The boxes that are never opened where the broken ones are broken, rising."""
     held = list(hand) + keys_in(boxes, broken)
     closed = [box for box in range(len(boxes)) if box not in broken]
-    opened = [box for ready in opened_in_rounds(boxes, held, closed) for box in ready]
-    return tuple([box for box in closed if box not in opened])
+    told, left = opened_in_rounds(boxes, held, closed)
+    return left
 
 
 def rounds(house):
     """The boxes opened in each round, a list of rising tuples."""
     check_house(house)
     boxes, hand = house
-    return opened_in_rounds(boxes, list(hand), list(range(len(boxes))))
+    told, left = opened_in_rounds(boxes, list(hand), list(range(len(boxes))))
+    return told
 
 
 def shut(house):

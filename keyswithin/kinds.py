@@ -1,6 +1,7 @@
 """The kinds of values that several modules ask after: each function takes anything."""
 
 MOST_LETTERS = 8
+SMALL_LETTERS = "abcdefghijklmnopqrstuvwxyz"
 
 
 def is_whole(thing):
@@ -13,23 +14,23 @@ def is_pair(thing):
     return isinstance(thing, tuple) and len(thing) == 2
 
 
-def is_rising(row):
-    """Whether a row of things that can be compared is in order, none twice."""
-    return all([one < other for one, other in zip(row, row[1:])])
-
-
-def is_colour(thing):
-    """Whether it is a text of 1 to 8 small letters."""
-    if not isinstance(thing, str) or not 1 <= len(thing) <= MOST_LETTERS:
-        return False
-    return all(["a" <= sign <= "z" for sign in thing])
-
-
 def is_colours(thing, most):
     """Whether it is a rising tuple of at most so many colours."""
     if not isinstance(thing, tuple) or len(thing) > most:
         return False
-    return all([is_colour(part) for part in thing]) and is_rising(thing)
+    # A house has many colours and is looked at each time it is handed in: so each colour is come to
+    # but once (what rises from the empty text is not empty), and their letters are looked at together.
+    before = ""
+    for part in thing:
+        if not isinstance(part, str) or part <= before or len(part) > MOST_LETTERS:
+            return False
+        before = part
+    return "".join(thing).strip(SMALL_LETTERS) == ""
+
+
+def is_colour(thing):
+    """Whether it is a text of 1 to 8 small letters."""
+    return is_colours((thing,), 1)
 
 
 def is_place(thing, many):
@@ -41,4 +42,9 @@ def is_boxes(thing, many):
     """Whether it is a rising tuple, also an empty one, of boxes of a house that has so many."""
     if not isinstance(thing, tuple):
         return False
-    return all([is_place(part, many) for part in thing]) and is_rising(thing)
+    before = -1
+    for part in thing:
+        if not is_whole(part) or not before < part < many:
+            return False
+        before = part
+    return True

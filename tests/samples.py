@@ -67,6 +67,25 @@ def ring_house(rings):
     return tuple(boxes), ()
 
 
+def plainly_colours(thing, most):
+    """Whether it is a rising tuple of at most so many colours, word for word."""
+    if type(thing) is not tuple or len(thing) > most or not all(type(part) is str for part in thing):
+        return False
+    texts = all(1 <= len(part) <= 8 and set(part) <= set(LETTERS) for part in thing)
+    return texts and list(thing) == sorted(set(thing))
+
+
+def plainly_house(thing):
+    """Whether it is a house, word for word."""
+    if type(thing) is not tuple or len(thing) != 2:
+        return False
+    boxes, hand = thing
+    if type(boxes) is not tuple or len(boxes) not in range(1, 31) or not plainly_colours(hand, 6):
+        return False
+    pairs = all(type(box) is tuple and len(box) == 2 for box in boxes)
+    return pairs and all(plainly_colours(locks, 3) and plainly_colours(keys, 6) for locks, keys in boxes)
+
+
 def left_shut(house, broken=(), chance=None):
     """The boxes never opened, found by opening one box at a time, in any order."""
     boxes, hand = house

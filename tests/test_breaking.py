@@ -6,13 +6,15 @@ import unittest
 from keyswithin.breaking import fewest, is_kept, kept_lots, shut_with
 from keyswithin.errors import Locks, NoBoxes, NoHouse, TooMany
 from tests.samples import (
-    THINGS, first_fewest, large_houses, left_shut, lots, names, plainly_kept, ring_house, small_houses,
-    tiny_houses,
+    THINGS, first_fewest, large_houses, left_shut, lots, names, plainly_kept, random_house, ring_house,
+    small_houses, tiny_houses,
 )
 
 PLAIN = ((), ())
 # Three boxes in a ring, and a fourth that opens by itself.
 RING = (((("a",), ("b",)), (("b",), ("c",)), (("c",), ("a",)), ((), ("d",))), ())
+# The house that is asked of all its lots, one by one.
+MUCH_ASKED = ((("amber", "blue", "cyan"), ("d", "e", "f", "g", "h", "i")),) * 8
 TWO_LOCKS = (((("a", "b"), ()), ((), ("a",)), ((), ("b",))), ())
 NO_BOXES = [
     None, True, False, 0, 1, "", "0", [], [0], [0, 1], (1, 0), (0, 0), (0, 1, 1), (0, 2, 1), (-1,), (-1, 0), (4,),
@@ -213,6 +215,41 @@ class IsKept(unittest.TestCase):
         for thing in THINGS:
             self.assertRaises(NoHouse, is_kept, thing, (0,))
             self.assertRaises(NoHouse, is_kept, thing, None)
+
+
+class AllLots(unittest.TestCase):
+    def hold(self, house):
+        """Ask of all lots of eight boxes, and each time of what is no house, too."""
+        self.assertEqual(len(lots(8)), 256)
+        no_houses = [list(house), (list(house[0]), house[1]), (house[0], list(house[1])), (house[0][:7] + ((),), ())]
+        for at, lot in enumerate(lots(8)):
+            self.assertIs(is_kept(house, lot), plainly_kept(house, lot))
+            self.assertEqual(shut_with(house, lot), left_shut(house, lot))
+            self.assertRaises(NoHouse, is_kept, no_houses[at % 4], lot)
+            self.assertRaises(NoHouse, shut_with, no_houses[at % 4], lot)
+            self.assertRaises(NoBoxes, shut_with, house, list(lot))
+            self.assertIs(is_kept(house, list(lot)), False)
+
+    def test_all_keys_in_the_hand(self):
+        house = (MUCH_ASKED, ("amber", "blue", "cyan"))
+        self.hold(house)
+        self.assertEqual([lot for lot in lots(8) if is_kept(house, lot)], [])
+        self.assertEqual({shut_with(house, lot) for lot in lots(8)}, {()})
+
+    def test_some_keys_in_the_hand(self):
+        for hand in ((), ("amber",), ("amber", "cyan")):
+            house = (MUCH_ASKED, hand)
+            self.hold(house)
+            self.assertEqual([lot for lot in lots(8) if is_kept(house, lot)], lots(8)[1:])
+            self.assertEqual(shut_with(house, (0, 3, 7)), (1, 2, 4, 5, 6))
+
+    def test_a_key_in_one_of_the_boxes(self):
+        self.hold((MUCH_ASKED[:5] + ((("amber", "d"), ("blue", "cyan")),) + MUCH_ASKED[6:], ("amber",)))
+
+    def test_drawn_houses(self):
+        chance = random.Random(20)
+        for _ in range(12):
+            self.hold(random_house(chance, 8, names(chance.randint(4, 12)), 3, 3, 2))
 
 
 class KeptLots(unittest.TestCase):

@@ -6,7 +6,9 @@ import unittest
 
 from keyswithin.errors import NoColour, NoHouse
 from keyswithin.houses import is_house, lost, rounds, shut
-from tests.samples import THINGS, large_houses, left_shut, names, nested, small_houses, tiny_houses
+from tests.samples import (
+    THINGS, large_houses, left_shut, names, nested, plainly_house, random_house, small_houses, tiny_houses,
+)
 
 PLAIN = ((), ())
 NO_COLOURS = [
@@ -15,8 +17,23 @@ NO_COLOURS = [
 ]
 
 
+ODD = THINGS + NO_COLOURS + ["abcdefgh", "z", ((), ()), (("a",), ("b",)), names(3), names(4), names(6), names(7)]
+
+
 def house_of(locks=(), keys=(), hand=()):
     return ((locks, keys),), hand
+
+
+def altered(chance, thing):
+    """The thing with something odd in its place or, mostly, in some place within it."""
+    if not isinstance(thing, tuple) or not thing or chance.random() < 0.15:
+        return chance.choice((chance.choice(ODD), list(thing) if isinstance(thing, tuple) else (thing,)))
+    if chance.random() < 0.15:
+        return thing + (chance.choice(thing),)
+    if chance.random() < 0.15:
+        return thing[::-1]
+    place = chance.randrange(len(thing))
+    return thing[:place] + (altered(chance, thing[place]),) + thing[place + 1:]
 
 
 class IsHouse(unittest.TestCase):
@@ -108,6 +125,42 @@ class IsHouse(unittest.TestCase):
     def test_houses_used_here(self):
         for house in tiny_houses():
             self.yes(house)
+
+    def test_all_bounds_at_once(self):
+        full = ((((names(3), names(6)),) * 30), names(6))
+        self.yes(full)
+        self.no((full[0] + full[0][:1], full[1]))
+        self.no((full[0], names(7)))
+        for place in (0, 15, 29):
+            for box in ((names(4), names(6)), (names(3), names(7)), (names(3)[::-1], ()), (names(3), names(6)[::-1])):
+                self.no((full[0][:place] + (box,) + full[0][place + 1:], full[1]))
+
+    def test_word_for_word(self):
+        chance = random.Random(8)
+        met = {True: 0, False: 0}
+        for _ in range(6000):
+            colours = names(6) + ("abcdefgh", "z", "yy")
+            thing = random_house(chance, chance.choice((1, 2, 8, 29, 30)), colours, 3, 6, 6)
+            self.yes(thing)
+            for _ in range(chance.randint(1, 2)):
+                thing = altered(chance, thing)
+            due = plainly_house(thing)
+            met[due] += 1
+            self.assertIs(is_house(thing), due, repr(thing))
+        self.assertGreater(min(met.values()), 200)
+
+    def test_nothing_hangs_on_what_was_asked_before(self):
+        box = (("amber", "blue"), ("cyan",))
+        house = ((box,) * 8, ("amber",))
+        alike = [
+            [(box,) * 8, ("amber",)], ([box] * 8, ("amber",)), ((box,) * 8, ["amber"]), ((box,) * 7 + (list(box),), ()),
+            ((box,) * 7 + ((["amber", "blue"], ("cyan",)),), ()), ((box,) * 7 + ((("amber", "blue"), ["cyan"]),), ()),
+        ]
+        for thing in alike:
+            self.yes(house)
+            self.no(thing)
+            self.no(thing)
+        self.yes(house)
 
 
 class Rounds(unittest.TestCase):
